@@ -118,12 +118,26 @@ func TestSaveWrong(t *testing.T) {
 	}
 }
 
-// TestSaveNoDisk is P5.2: what is no disk has no sectors.
+// TestSaveNoDisk is P5.2 and R1: ErrNil of no disk, whatever the place, the epoch and the head, also such as are wrong.
 func TestSaveNoDisk(t *testing.T) {
+	heads := []head.Head{{}, {Gen: 1}, {Gen: maxCount, Tail: maxCount, Floor: maxEpoch}, {Gen: 1 << 40}, {Tail: 1 << 40}, {Floor: 1 << 24}}
 	for _, d := range []*disk.Disk{nil, {}} {
-		for _, at := range append(wrongPlaces(0), 0) {
-			wantErr(t, "Save", head.Save(d, at, 1, head.Head{}), api.ErrArg)
+		for _, at := range append(wrongPlaces(0), 0, 1, 7) {
+			for _, epoch := range []uint64{0, 1, maxEpoch, 1 << 24, math.MaxUint64} {
+				for _, h := range heads {
+					wantErr(t, "no disk", head.Save(d, at, epoch, h), api.ErrNil)
+				}
+			}
 		}
+	}
+}
+
+// TestSaveSmallDisk is P5.2: ErrArg of the smallest disk, which has no two sectors, but is one.
+func TestSaveSmallDisk(t *testing.T) {
+	d := filled(t, 1)
+	for _, at := range append(wrongPlaces(1), 0, 1, 7) {
+		wantNotSaved(t, "small", d, at, 1, head.Head{})
+		wantNotSaved(t, "small, an odd one", d, at, 1, head.Head{Gen: 1})
 	}
 }
 
